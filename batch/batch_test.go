@@ -224,7 +224,7 @@ func TestCheckRecords(t *testing.T) {
 				t.Errorf("%d, and others: %#v, not %#v", i, err, want)
 			}
 		}
-		for _, one := range parts()[0] {
+		for _, one := range slices.Concat(parts()[:2]...) {
 			b := batch.Of(1, 0, bad)
 			one.spoil(&b)
 			if err := batch.Check(b); err != one.want {
