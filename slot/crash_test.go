@@ -165,9 +165,9 @@ func TestCrashAgain(t *testing.T) {
 	}
 }
 
-// TestCrashReopened: 10.5, a value that was put over a synced one is not synced by being found: until it is, there can be no other one, whoever opens the slot.
+// TestCrashReopened: 10.5, a value that was put, over a synced one or over nothing, is not synced by being found: until it is, there can be no other one, whoever opens the slot.
 func TestCrashReopened(t *testing.T) {
-	for _, turn := range edges[2:] {
+	for _, turn := range edges {
 		k := begin(t, turn)
 		k.next(t, 5)
 		k.s = open(t, k.d, k.at)
@@ -205,6 +205,19 @@ func TestCrashUnder(t *testing.T) {
 	k.crash(t, []int{1}, 9)
 }
 
+// TestCrashUnderFound: 10.3 and 10.5, so has one whose value was found, not synced, and lost then: the next one would be written over the one that is left.
+func TestCrashUnderFound(t *testing.T) {
+	for _, turn := range edges {
+		k := begin(t, turn)
+		k.next(t, 5)
+		k.s = open(t, k.d, k.at)
+		k.d.Crash(nil, 0)
+		k.next(t, 6)
+		k.crash(t, []int{1}, 30)
+		k.next(t, 7)
+	}
+}
+
 // chance does one thing to a slot, or to the store beside it, the same in every run.
 func (k *kept) chance(t *testing.T, r *rand.Rand) {
 	t.Helper()
@@ -227,9 +240,7 @@ func (k *kept) chance(t *testing.T, r *rand.Rand) {
 		}
 		k.crash(t, keep, r.IntN(80)-1)
 	case 7:
-		if !k.loose || k.synced.turn > 0 {
-			k.s = open(t, k.d, k.at)
-		}
+		k.s = open(t, k.d, k.at)
 	default:
 		k.next(t, r.IntN(48))
 	}

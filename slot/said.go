@@ -1,6 +1,10 @@
 package slot
 
-import "castellan/block"
+import (
+	"bytes"
+
+	"castellan/block"
+)
 
 // A block has its turn ahead, a byte that tells how long the value is, the value from valueAt on, and its turn once more from behindAt on.
 const (
@@ -12,10 +16,10 @@ const (
 // topTurn is the highest number that is a turn.
 const topTurn = 1 << 60
 
-// said is what a block says: a value, and its turn.
+// said is what a block says: a turn, and a value, which stands in the block. There is no block, if none says anything.
 type said struct {
 	turn  int
-	value []byte
+	block []byte
 }
 
 // pair is what both blocks say.
@@ -27,7 +31,15 @@ func saidOf(b []byte) said {
 	if turn != turnOf(b[behindAt:]) || long > Most {
 		return said{}
 	}
-	return said{turn: turn, value: b[valueAt : valueAt+long]}
+	return said{turn: turn, block: b}
+}
+
+// value is the value that is said, in new memory.
+func (x said) value() []byte {
+	if x.block == nil {
+		return nil
+	}
+	return bytes.Clone(x.block[valueAt : valueAt+int(x.block[lengthAt])])
 }
 
 // turnOf is the turn that bytes begin with, the highest first; 0, if they are above all turns.
@@ -56,14 +68,14 @@ func (p pair) newest() said {
 	return last
 }
 
-// block is the block that says it.
-func (x said) block() []byte {
+// say is a value of a turn, with the block that says it.
+func say(turn int, value []byte) said {
 	b := make([]byte, block.Size)
-	putTurn(b, x.turn)
-	b[lengthAt] = byte(len(x.value))
-	copy(b[valueAt:behindAt], x.value)
-	putTurn(b[behindAt:], x.turn)
-	return b
+	putTurn(b, turn)
+	b[lengthAt] = byte(len(value))
+	copy(b[valueAt:behindAt], value)
+	putTurn(b[behindAt:], turn)
+	return said{turn: turn, block: b}
 }
 
 // putTurn writes a turn where bytes begin, the highest first.

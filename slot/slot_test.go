@@ -531,23 +531,219 @@ func TestOthersWrites(t *testing.T) {
 	}
 }
 
-// TestFoundLoose: 10.3, blocks that were written, and not synced, on a store that has nothing synced beneath them, were put by nobody here: the next turn is taken, and it alone is not synced.
+// refused puts values that must not be taken, for one that was put is not synced; and all is as it was.
+func refused(t *testing.T, d *block.Disk, s *slot.Slot) {
+	t.Helper()
+	turn, value, used, loose := s.Turn(), s.Value(), d.Used(), d.Loose()
+	for _, n := range []int{0, 1, 47} {
+		if err := s.Put(row(9, n)); err != wrong("turn", turn, api.ErrState) {
+			t.Errorf("%d bytes: %#v", n, err)
+		}
+	}
+	if err := s.Put(row(9, 48)); err != wrong("value", 48, api.ErrLimit) {
+		t.Errorf("%#v", err)
+	}
+	has(t, s, turn, value...)
+	counts(t, d, used, loose)
+}
+
+// TestPutOpenPut: 10.3, one that was put is not synced when the slot is opened again, be there an elder one that is synced or not; behind whosever sync the next one is taken.
+func TestPutOpenPut(t *testing.T) {
+	for elder := range 4 {
+		for name, sync := range map[string]func(s, x *slot.Slot, d *block.Disk){
+			"its own":     func(s, x *slot.Slot, d *block.Disk) { s.Sync() },
+			"another's":   func(s, x *slot.Slot, d *block.Disk) { x.Sync() },
+			"the store's": func(s, x *slot.Slot, d *block.Disk) { d.Sync() },
+		} {
+			d := store(t, 2)
+			x := open(t, d, 4)
+			for n := range elder {
+				put(t, x, byte(n))
+				x.Sync()
+			}
+			put(t, x, 7, 8)
+			turn := elder + 1
+			s := open(t, d, 4)
+			for _, each := range []*slot.Slot{s, open(t, d, 4), x, s} {
+				has(t, each, turn, 7, 8)
+				refused(t, d, each)
+			}
+			reads(t, d, 4+turn%2, says(uint64(turn), 7, 8))
+			sync(s, x, d)
+			put(t, s, 6)
+			has(t, s, turn+1, 6)
+			reads(t, d, 4+turn%2, says(uint64(turn), 7, 8))
+			reads(t, d, 4+(turn+1)%2, says(uint64(turn+1), 6))
+			if refused(t, d, open(t, d, 4)); t.Failed() {
+				t.Fatalf("%d elder ones, %s sync", elder, name)
+			}
+		}
+	}
+}
+
+// TestPutCrashOpenPut: 10.3, behind a crash, or a wipe, nothing is left that is not synced: the next one is taken.
+func TestPutCrashOpenPut(t *testing.T) {
+	for elder := range 4 {
+		for name, c := range map[string]struct {
+			fall func(d *block.Disk)
+			turn int
+		}{
+			"lost": {func(d *block.Disk) { d.Crash(nil, 0) }, elder},
+			"torn": {func(d *block.Disk) { d.Crash([]int{1}, 30) }, elder},
+			"kept": {func(d *block.Disk) { d.Crash([]int{1}, 64) }, elder + 1},
+			"wipe": {(*block.Disk).Wipe, 0},
+		} {
+			d := store(t, 2)
+			s := open(t, d, 4)
+			for n := range elder {
+				put(t, s, byte(n))
+				s.Sync()
+			}
+			put(t, s, 7)
+			refused(t, d, open(t, d, 4))
+			c.fall(d)
+			s = open(t, d, 4)
+			put(t, s, 6)
+			if has(t, s, c.turn+1, 6); t.Failed() {
+				t.Fatalf("%d elder ones, %s", elder, name)
+			}
+		}
+	}
+}
+
+// TestFoundLoose: 10.3, a value that stands there, and is not synced, was put, whoever wrote its block, and whatever is beneath it; turn 0 never was.
 func TestFoundLoose(t *testing.T) {
-	for turn := range 4 {
+	for turn := range 5 {
+		for _, beneath := range [][]byte{nil, made(9, 7, 1, 3), says(uint64(turn), 3), says(uint64(turn+1), 3)} {
+			d := store(t, 2)
+			lay(t, d, 5+turn%2, beneath)
+			if err := d.Write(5+turn%2, says(uint64(turn), 7)); err != nil {
+				t.Fatal(err)
+			}
+			s := open(t, d, 5)
+			has(t, s, turn, 7)
+			if turn > 0 {
+				refused(t, d, s)
+				s.Sync()
+			}
+			put(t, s, 8)
+			has(t, s, turn+1, 8)
+			refused(t, d, s)
+			s.Sync()
+			put(t, s, 9)
+			has(t, open(t, d, 5), turn+2, 9)
+		}
+	}
+}
+
+// TestFoundElsewhere: 10.3, a value is not synced by a block that says the same where it does not stand.
+func TestFoundElsewhere(t *testing.T) {
+	for turn := 1; turn < 5; turn++ {
 		d := store(t, 2)
+		lay(t, d, 5+(turn+1)%2, says(uint64(turn), 7))
 		if err := d.Write(5+turn%2, says(uint64(turn), 7)); err != nil {
 			t.Fatal(err)
 		}
 		s := open(t, d, 5)
 		has(t, s, turn, 7)
+		refused(t, d, s)
+		d.Sync()
 		put(t, s, 8)
 		has(t, s, turn+1, 8)
-		if err := s.Put(nil); err != wrong("turn", turn+1, api.ErrState) {
-			t.Errorf("%#v", err)
+	}
+}
+
+// TestSyncedBefore: 10.3, one that was synced is so, though others were put behind it by another slot, and synced.
+func TestSyncedBefore(t *testing.T) {
+	for others := range 4 {
+		d := store(t, 2)
+		s := open(t, d, 4)
+		put(t, s, 1)
+		d.Sync()
+		x := open(t, d, 4)
+		for n := range others {
+			put(t, x, byte(n))
+			refused(t, d, s)
+			d.Sync()
 		}
-		s.Sync()
 		put(t, s, 9)
-		has(t, open(t, d, 5), turn+2, 9)
+		has(t, s, 2, 9)
+	}
+}
+
+// TestFoundFirm: 10.3, a value that is synced is no less so for what is written, or freed, beside it, and says no value.
+func TestFoundFirm(t *testing.T) {
+	for name, spoil := range map[string]func(d *block.Disk) error{
+		"torn":      func(d *block.Disk) error { return d.Write(4, made(4, 2, 1, 7)) },
+		"too long":  func(d *block.Disk) error { return d.Write(4, made(4, 4, 48, 7)) },
+		"elsewhere": func(d *block.Disk) error { return d.Write(4, says(5, 7)) },
+		"noughts":   func(d *block.Disk) error { return d.Write(4, nil) },
+		"an elder":  func(d *block.Disk) error { return d.Write(4, says(2, 6)) },
+		"free":      func(d *block.Disk) error { return d.Free(4) },
+	} {
+		for _, behind := range []bool{false, true} {
+			d := store(t, 2)
+			lay(t, d, 4, says(2, 7), says(3, 8))
+			s := open(t, d, 4)
+			if err := spoil(d); err != nil {
+				t.Fatal(err)
+			}
+			if behind {
+				s = open(t, d, 4)
+			}
+			has(t, s, 3, 8)
+			put(t, s, 9)
+			has(t, s, 4, 9)
+			if refused(t, d, open(t, d, 4)); t.Failed() {
+				t.Fatal(name)
+			}
+		}
+	}
+}
+
+// TestFoundUneven: 10.1 and 10.3, a value that is synced is so, though no noughts stand behind it.
+func TestFoundUneven(t *testing.T) {
+	d := store(t, 2)
+	b := made(1, 1, 2, row(1, 47)...)
+	if err := d.Write(5, b); err != nil {
+		t.Fatal(err)
+	}
+	s := open(t, d, 4)
+	has(t, s, 1, 1, 2)
+	refused(t, d, s)
+	d.Sync()
+	put(t, s, 3)
+	d.Crash(nil, 0)
+	s = open(t, d, 4)
+	has(t, s, 1, 1, 2)
+	put(t, s, 4)
+	reads(t, d, 4, says(2, 4), b)
+}
+
+// TestPutBeside: 10.3, what was put by another slot in the same blocks, and is not synced, refuses the next one, too, with nothing written over it: a crash leaves that one, or the one that was synced.
+func TestPutBeside(t *testing.T) {
+	for elder := range 4 {
+		for cut := range 65 {
+			d := store(t, 2)
+			s := open(t, d, 4)
+			var old []byte
+			for n := range elder {
+				old = []byte{byte(n), 1}
+				put(t, s, old...)
+				s.Sync()
+			}
+			x := open(t, d, 4)
+			put(t, x, 7, 8, 9)
+			refused(t, d, s)
+			has(t, s, elder, old...)
+			d.Crash([]int{1, 1, 1, 1}, cut)
+			if s = open(t, d, 4); s.Turn() > elder {
+				has(t, s, elder+1, 7, 8, 9)
+			} else if has(t, s, elder, old...); cut == 64 {
+				t.Error("lost")
+			}
+			put(t, s, 5)
+		}
 	}
 }
 
@@ -566,6 +762,10 @@ func TestPutTop(t *testing.T) {
 	has(t, open(t, d, 5), top, 7)
 	put(t, s, 9)
 	has(t, s, top+2, 9)
+	refused(t, d, s)
+	d.Sync()
+	put(t, s, 10)
+	has(t, s, top+3, 10)
 }
 
 // TestBeside: 10.1, slots side by side leave each other alone.
